@@ -22,7 +22,7 @@ func (r *Row) Put(value uint64, n int) error {
 	if n < 0 || n > valueBits {
 		return api.ErrBound
 	}
-	if n > api.MaxBits-r.size {
+	if n > r.Room() {
 		return api.ErrFull
 	}
 	for n > 0 {
@@ -40,6 +40,9 @@ func (r *Row) Put(value uint64, n int) error {
 
 // Len of a row.
 func (r *Row) Len() int { return r.size }
+
+// Room of a row: how many bits more it takes. (Who puts several things, all or none, asks ahead.)
+func (r *Row) Room() int { return api.MaxBits - r.size }
 
 // Bytes of a row.
 func (r *Row) Bytes() string { return string(r.bytes) }

@@ -220,6 +220,22 @@ func TestPutOnFullRow(t *testing.T) {
 	}
 }
 
+func TestRoom(t *testing.T) {
+	r := New()
+	for _, n := range []int{0, 1, 7, 8, 64} {
+		mustPut(t, r, 0, n)
+		if r.Room()+r.Len() != api.MaxBits {
+			t.Error(n, r.Room(), r.Len())
+		}
+	}
+	if err := r.Put(0, 65); err != api.ErrBound || r.Room() != api.MaxBits-80 {
+		t.Error(err, r.Room())
+	}
+	if r := filled(t, api.MaxBits); r.Room() != 0 {
+		t.Error(r.Room())
+	}
+}
+
 func TestRowsAreApart(t *testing.T) {
 	a, b := New(), New()
 	mustPut(t, a, 3, 2)
