@@ -1,11 +1,11 @@
 package label
 
 import (
-	"errors"
 	"slices"
 	"strings"
 
 	"tidegauge/api"
+	"tidegauge/fault"
 )
 
 // Order of lists of labels.
@@ -18,7 +18,7 @@ func Order(l [][]api.Label) ([]int, error) {
 	for i, x := range l {
 		s, err := Text(x)
 		if err != nil {
-			return nil, &api.Fault{At: i, Err: bare(err)}
+			return nil, fault.At(i, err)
 		}
 		numbers, texts = append(numbers, i), append(texts, s)
 	}
@@ -26,13 +26,4 @@ func Order(l [][]api.Label) ([]int, error) {
 		return strings.Compare(texts[a], texts[b])
 	})
 	return numbers, nil
-}
-
-// bare error: a place within one list is none of the lists.
-func bare(err error) error {
-	var fault *api.Fault
-	if errors.As(err, &fault) {
-		return fault.Err
-	}
-	return err
 }
