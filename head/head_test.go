@@ -279,6 +279,30 @@ func TestAddRefusedMakesNothingKnown(t *testing.T) {
 	}
 }
 
+func TestRefusesTellsWhatAddWould(t *testing.T) {
+	h := full(t)
+	was := told(h)
+	for _, c := range []struct {
+		series string
+		tick   int
+	}{{"n=0", 6}, {"n=0", 5}, {"n=0", -6}, {"n=0", api.MaxTime + 1}, {"n=0", math.MinInt}, {"z=z", 6}, {"z=z", math.MaxInt}, {"n", 6}, {"m=x,n=A", math.MaxInt}, {"", 0}} {
+		first, again := h.Refuses(c.series, at(c.tick)), h.Refuses(c.series, at(c.tick))
+		if told(h) != was {
+			t.Fatal(c, told(h))
+		}
+		if err := full(t).Add(c.series, at(c.tick)); !isThat(first, err) || !isThat(again, err) {
+			t.Error(c, first, again, err)
+		}
+	}
+	// To ask makes no series known.
+	h = New()
+	for i := range 2 * api.MaxSeries {
+		if err := h.Refuses("n="+strconv.Itoa(i), at(1)); err != nil {
+			t.Error(i, err)
+		}
+	}
+}
+
 func TestSeriesRise(t *testing.T) {
 	rising := []string{"a-=x", "a0=x", "a=-", "a=0", "a=x", "a=x,b=x", "a=x-", "a=x0", "a=xx", "b=x"}
 	sort.Strings(rising) // byte by byte, whatever stands above

@@ -330,6 +330,17 @@ func TestFitsWrong(t *testing.T) {
 		if fit, err := Fits(l, c.m); fit || !isWrong(err, c.at, c.want) {
 			t.Errorf("%d: %v, %#v; not %d, %v", i, fit, err, c.at, c.want)
 		}
+		if err := CheckMatches(c.m); !isWrong(err, c.at, c.want) {
+			t.Errorf("%d: %#v; not %d, %v", i, err, c.at, c.want)
+		}
+	}
+}
+
+func TestCheckMatches(t *testing.T) {
+	for i, m := range [][]api.Match{nil, {}, {match('=', "a", "")}, {match('!', "a-0", "A, ="), match('~', longest, longest+"m")}, slices.Repeat([]api.Match{match('=', "a", "x1")}, api.MaxMatches)} {
+		if err := CheckMatches(m); err != nil {
+			t.Error(i, err)
+		}
 	}
 }
 

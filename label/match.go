@@ -19,7 +19,7 @@ func Fits(l []api.Label, m []api.Match) (bool, error) {
 		return false, err
 	}
 	// All of them first: a match that does not fit hides no wrong one behind it.
-	if err := checkMatches(m); err != nil {
+	if err := CheckMatches(m); err != nil {
 		return false, err
 	}
 	for _, x := range m {
@@ -30,7 +30,8 @@ func Fits(l []api.Label, m []api.Match) (bool, error) {
 	return true, nil
 }
 
-func checkMatches(m []api.Match) error {
+// CheckMatches tells what Fits would tell of matches, whatever the labels.
+func CheckMatches(m []api.Match) error {
 	if len(m) > api.MaxMatches {
 		return api.ErrBound
 	}
