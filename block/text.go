@@ -5,6 +5,7 @@ import (
 	"strings"
 
 	"tidegauge/api"
+	"tidegauge/hex"
 )
 
 // What a text begins with, and what stands between words and behind lines.
@@ -13,8 +14,6 @@ const (
 	blank = " "
 	end   = "\n"
 )
-
-const hexDigits = "0123456789abcdef"
 
 // longestNumber in a text, in bytes: few enough that an int holds it.
 const longestNumber = 15
@@ -27,19 +26,9 @@ func Text(b Block) (string, error) {
 	var s strings.Builder
 	s.WriteString(begin + blank + strconv.Itoa(b.From) + blank + strconv.Itoa(b.Span) + blank + strconv.Itoa(len(b.Series)) + end)
 	for i, series := range b.Series {
-		s.WriteString(series + blank + digits(b.Chunks[i]) + end)
+		s.WriteString(series + blank + hex.Digits(b.Chunks[i]) + end)
 	}
 	return s.String(), nil
-}
-
-// digits of bytes, two each.
-func digits(b string) string {
-	var s strings.Builder
-	for i := range len(b) {
-		s.WriteByte(hexDigits[b[i]>>4])
-		s.WriteByte(hexDigits[b[i]&15])
-	}
-	return s.String()
 }
 
 // Read a block.
@@ -104,22 +93,6 @@ func number(word string) (int, bool) {
 // parsedSeries is a series' text and its chunk.
 func parsedSeries(line string) (string, string, bool) {
 	series, twice, found := strings.Cut(line, blank)
-	packed, right := bytesOf(twice)
+	packed, right := hex.Bytes(twice)
 	return series, packed, found && right
-}
-
-// bytesOf digits, two each.
-func bytesOf(s string) (string, bool) {
-	if len(s)%2 > 0 {
-		return "", false
-	}
-	var b strings.Builder
-	for i := 0; i < len(s); i += 2 {
-		high, low := strings.IndexByte(hexDigits, s[i]), strings.IndexByte(hexDigits, s[i+1])
-		if high < 0 || low < 0 {
-			return "", false
-		}
-		b.WriteByte(byte(high<<4 | low))
-	}
-	return b.String(), true
 }

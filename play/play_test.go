@@ -377,6 +377,19 @@ func TestBoot(t *testing.T) {
 	}
 }
 
+// Boot itself is what its number asks for.
+func TestBootByCall(t *testing.T) {
+	p, q := New(), New()
+	for _, x := range []*Play{p, q} {
+		answers(t, x, append(times(11, Far), flush, 8*5+cut, 8*1), append(times(13, 0), 10))
+	}
+	s := p.S
+	well(t, q, boot)
+	if err := p.Boot(); err != nil || p.S == s || told(t, p) != told(t, q) {
+		t.Error(err, told(t, p), told(t, q))
+	}
+}
+
 // A series whose points all went into blocks is not known any more when these are gone.
 func TestBootForgets(t *testing.T) {
 	p := New()

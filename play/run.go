@@ -33,7 +33,7 @@ func (r *run) do(kind, q int) error {
 	case 6:
 		return r.play.D.Cut(q % 60)
 	case 7:
-		return r.play.boot()
+		return r.play.Boot()
 	default:
 		return r.add(q)
 	}
